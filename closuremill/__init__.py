@@ -1,0 +1,1 @@
+"""Closuremill: functions that keep what is round them."""
