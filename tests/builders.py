@@ -4,6 +4,76 @@ ZERO = ("num", 0)
 ONE = ("num", 1)
 WORDS = ("num", "name", "fun", "call", "plus", "less", "if", "let")
 
+
+def num(n):
+    return ("num", n)
+
+
+def name(x):
+    return ("name", x)
+
+
+def fun(x, body):
+    return ("fun", x, body)
+
+
+def call(function, value):
+    return ("call", function, value)
+
+
+def plus(first, second):
+    return ("plus", first, second)
+
+
+def less(first, second):
+    return ("less", first, second)
+
+
+def choice(which, first, second):
+    return ("if", which, first, second)
+
+
+def let(x, e, body):
+    return ("let", x, e, body)
+
+
+X = name("x")
+SAME = fun("x", X)
+TWICE = fun("x", call(X, X))
+
+# Trees that never come to an end: one that stays as it is, one that grows around its next deed.
+ENDLESS = call(TWICE, TWICE)
+GROWING = call(fun("x", plus(ONE, call(X, X))), fun("x", plus(ONE, call(X, X))))
+
+
+def countdown(n):
+    """A tree that comes to 7 behind 4 * n + 4 deeds."""
+    again = call(call(name("f"), name("f")), less(name("n"), ONE))
+    body = fun("f", fun("n", choice(name("n"), again, num(7))))
+    return let("f", body, call(call(name("f"), name("f")), num(n)))
+
+
+def doubled(times, inmost):
+    """A call within a call, so many times over: each holds twice what the one within it comes to."""
+    tree = inmost
+    for _ in range(times):
+        tree = call(name("d"), tree)
+    return let("d", fun("a", fun("b", choice(ZERO, call(name("a"), name("a")), name("b")))), tree)
+
+
+def flat(tree):
+    """All that stands in a tree, as it is read: to compare trees that are too deep for ==."""
+    told = []
+    waiting = [tree]
+    while waiting:
+        piece = waiting.pop()
+        if isinstance(piece, tuple):
+            told.append(len(piece))
+            waiting.extend(piece[::-1])
+        else:
+            told.append((type(piece), piece))
+    return told
+
 # Ways to put a tree into one more node; how many nodes each adds.
 WRAPS = {
     "fun": (lambda tree: ("fun", "x", tree), 1),
@@ -19,6 +89,12 @@ WRAPS = {
     "let, e": (lambda tree: ("let", "x", tree, ONE), 2),
     "let, the body": (lambda tree: ("let", "x", ONE, tree), 2),
 }
+
+# Those of them in which the tree is worked out, and comes first.
+AHEAD = (
+    "call, the function", "call, the value", "plus, the first", "plus, the second",
+    "less, the first", "less, the second", "if, the choice", "let, e",
+)
 
 
 def nested(wrap, times, tree=ZERO):

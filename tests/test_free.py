@@ -2,15 +2,10 @@
 
 import unittest
 
-from builders import ONE, WRAPS, nested
+from builders import ONE, WRAPS, X, name, nested
 from closuremill.trees import free
 
-
-def name(x):
-    return ("name", x)
-
-
-A, B, C, X, Y = name("a"), name("b"), name("c"), name("x"), name("y")
+A, B, C, Y = name("a"), name("b"), name("c"), name("y")
 
 
 class Free(unittest.TestCase):

@@ -1,6 +1,7 @@
 """The interface: its names, where they are defined, and their arguments."""
 
 import ast
+import builtins
 import importlib
 import inspect
 import pathlib
@@ -10,12 +11,23 @@ FOLDER = pathlib.Path(__file__).resolve().parent.parent / "closuremill"
 
 FUNCTIONS = {
     "closuremill.trees": {"need_tree": ["tree"], "parts": ["tree"], "nodes": ["tree"], "free": ["tree"]},
+    "closuremill.putting": {
+        "put": ["tree", "name", "value"], "step": ["tree"], "worked": ["tree", "most"], "steps": ["tree", "most"],
+    },
+    "closuremill.machine": {"run": ["tree", "most"], "made": ["tree", "most"], "told": ["value"]},
+    "closuremill.notes": {"shown": ["tree"], "read": ["line"]},
 }
 CLASSES = {
     "closuremill.errors": [
         "MillError", "NoTree", "NotClosed", "BadMost", "NoNumber", "NoFunction", "Dry", "NoText",
     ],
+    "closuremill.machine": ["Kept"],
 }
+# All builtins that the package may call: none of them asks the clock, chance or a file.
+BUILTINS = (
+    "len range enumerate zip min max sum abs sorted reversed int str bool list tuple dict set isinstance ord repr any "
+    "all divmod type"
+).split(" ")
 
 
 def defined(module, kind):
@@ -40,6 +52,24 @@ class Interface(unittest.TestCase):
                 with self.subTest(module=module, name=name):
                     self.assertTrue(inspect.isclass(getattr(importlib.import_module(module), name)))
                     self.assertIn(name, defined(module, ast.ClassDef))
+
+    def test_a_kept_has_its_attributes_from_the_start(self):
+        kept = importlib.import_module("closuremill.machine").made(("fun", "x", ("name", "x")), 0)[0]
+        self.assertEqual((kept.name, kept.body, kept.names, kept.held), ("x", ("name", "x"), [], []))
+
+    def test_files_import_from_the_package_alone(self):
+        for path in FOLDER.glob("*.py"):
+            for row in ast.walk(ast.parse(path.read_text(encoding="ascii"))):
+                self.assertNotIsInstance(row, ast.Import, path)
+                if isinstance(row, ast.ImportFrom):
+                    self.assertEqual((row.level, row.module.split(".")[0]), (0, "closuremill"), path)
+                    self.assertNotIn("*", [name.name for name in row.names], path)
+
+    def test_files_call_no_builtin_that_looks_outside(self):
+        for path in FOLDER.glob("*.py"):
+            for part in ast.walk(ast.parse(path.read_text(encoding="ascii"))):
+                if isinstance(part, ast.Name) and hasattr(builtins, part.id):
+                    self.assertIn(part.id, BUILTINS + ["ValueError"], path)
 
     def test_the_folder_holds_nothing_but_plain_files_of_the_package(self):
         for path in FOLDER.rglob("*"):
